@@ -372,6 +372,20 @@ func TestNewMemory(t *testing.T) {
 	for _, part := range []string{got.Room, got.Sender, got.Key, got.Body} {
 		apart(t, "Parse", s, part)
 	}
+	same := Clone(e)
+	apart(t, "Clone", e.Room, same.Room)
+	apart(t, "Clone", e.Sender, same.Sender)
+	apart(t, "Clone", e.Key, same.Key)
+	apart(t, "Clone", e.Body, same.Body)
+}
+
+// Clone has no promise of its own: by it, other packages hand out events in new memory.
+func TestClone(t *testing.T) {
+	for _, e := range append(validEvents(), wrongEvents()...) {
+		if same := Clone(e); same != e {
+			t.Errorf("Clone(%s) = %s", told(e), told(same))
+		}
+	}
 }
 
 // apart fails a test if a result lies inside an argument's memory.

@@ -80,6 +80,26 @@ func TestGetNumWrong(t *testing.T) {
 	}
 }
 
+// AllNum has no promise of its own: by it, other packages read numbers that stand in lists.
+func TestAllNum(t *testing.T) {
+	for _, n := range []uint64{0, 1, 127, 128, 300, api.MaxNum} {
+		s, _ := Num(n)
+		if got, errno := AllNum(s); got != n || errno != api.OK {
+			t.Errorf("AllNum(%x) = %d, %d; want %d", s, got, errno, n)
+		}
+		for _, behind := range []string{"\x00", "\x01", tail} {
+			if got, errno := AllNum(s + behind); got != 0 || errno != api.ErrCode {
+				t.Errorf("AllNum(%x) = %d, %d; want ErrCode", s+behind, got, errno)
+			}
+		}
+	}
+	for s, want := range map[string]api.Errno{"": api.ErrShort, "\x80": api.ErrShort, "\x80\x00": api.ErrCode, strings.Repeat("\xff", 7): api.ErrCode} {
+		if got, errno := AllNum(s); got != 0 || errno != want {
+			t.Errorf("AllNum(%x) = %d, %d; want %d", s, got, errno, want)
+		}
+	}
+}
+
 // Promise 1.2.
 func TestText(t *testing.T) {
 	longest := strings.Repeat("x", api.MaxText)

@@ -411,6 +411,24 @@ func TestNewTexts(t *testing.T) {
 	apart(t, "Joined", Joined(r), texts(r.State))
 }
 
+// Clone has no promise of its own: by it, other packages hand out rooms in new memory.
+func TestClone(t *testing.T) {
+	crossed := cells(a, b)
+	crossed[0].Key, crossed[1].Event.Key = "x", "y"
+	for _, r := range append(wrongRooms(), api.Room{}, api.Room{State: cells(a, b, name, h), Hub: 2, Epoch: 1, Len: 5}, api.Room{State: crossed}) {
+		before := slices.Clone(r.State)
+		got := Clone(r)
+		if !same(got, r) {
+			t.Errorf("Clone(%s) = %s", told(r), told(got))
+		}
+		apart(t, "Clone", texts(got.State), texts(r.State))
+		clear(got.State)
+		if !slices.Equal(r.State, before) {
+			t.Errorf("Clone(%s) shares its cells", told(r))
+		}
+	}
+}
+
 // texts are the texts of cells.
 func texts(s []api.Cell) []string {
 	var l []string

@@ -1,6 +1,7 @@
 package octet
 
 import (
+	"math"
 	"math/rand"
 	"slices"
 	"strings"
@@ -96,6 +97,47 @@ func TestAllNum(t *testing.T) {
 	for s, want := range map[string]api.Errno{"": api.ErrShort, "\x80": api.ErrShort, "\x80\x00": api.ErrCode, strings.Repeat("\xff", 7): api.ErrCode} {
 		if got, errno := AllNum(s); got != 0 || errno != want {
 			t.Errorf("AllNum(%x) = %d, %d; want %d", s, got, errno, want)
+		}
+	}
+}
+
+// AllInt has no promise of its own: by it, other packages read numbers that have a bound.
+func TestAllInt(t *testing.T) {
+	for _, most := range []int{math.MinInt, -1, 0, 1, 63, 4096, 1 << 20, api.MaxNum, math.MaxInt} {
+		for _, n := range []int{0, 1, 2, 63, 64, 4096, 4097, 1 << 20, 1<<20 + 1, 1<<32 + 1, api.MaxNum} {
+			s, _ := Num(uint64(n))
+			want, wantErrno := n, api.OK
+			if n > most {
+				want, wantErrno = 0, api.ErrRange
+			}
+			if got, errno := AllInt(s, most); got != want || errno != wantErrno {
+				t.Errorf("AllInt(%x, %d) = %d, %d; want %d, %d", s, most, got, errno, want, wantErrno)
+			}
+			if got, errno := AllInt(s+"\x00", most); got != 0 || errno != api.ErrCode {
+				t.Errorf("AllInt(%x, %d) = %d, %d; want ErrCode", s+"\x00", most, got, errno)
+			}
+		}
+		for s, want := range map[string]api.Errno{"": api.ErrShort, "\x80": api.ErrShort, "\x80\x00": api.ErrCode, strings.Repeat("\xff", 7): api.ErrCode} {
+			if got, errno := AllInt(s, most); got != 0 || errno != want {
+				t.Errorf("AllInt(%x, %d) = %d, %d; want %d", s, most, got, errno, want)
+			}
+		}
+	}
+}
+
+// Hash has no promise of its own: by it, other packages read hashes that stand in lists.
+func TestHash(t *testing.T) {
+	var want api.Hash
+	for i := range want {
+		want[i] = byte(i + 1)
+	}
+	right := string(want[:])
+	if h, errno := Hash(right); h != want || errno != api.OK {
+		t.Errorf("Hash = %x, %d; want %x", h, errno, want)
+	}
+	for _, s := range []string{"", "x", right[1:], right[:31], right + "\x00", right + right} {
+		if h, errno := Hash(s); h != (api.Hash{}) || errno != api.ErrCode {
+			t.Errorf("Hash of %d bytes = %x, %d; want ErrCode", len(s), h, errno)
 		}
 	}
 }

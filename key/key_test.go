@@ -221,6 +221,16 @@ func TestPlace(t *testing.T) {
 	}
 }
 
+// Promises 5.1 and 5.2: the sizes of signatures are told ahead of signing.
+func TestSize(t *testing.T) {
+	for high := range 8 {
+		_, sig := mustSign(t, api.Key{Seed: "s", High: high}, "abc")
+		if got := Size(high); got != len(sig) || got != 1089+32*high {
+			t.Errorf("Size(%d) = %d, and a signature has %d bytes", high, got, len(sig))
+		}
+	}
+}
+
 // Promise 5.2: a signature's form, which Verify asks of it before all else.
 func TestPlaceWrong(t *testing.T) {
 	for high := range 8 {
@@ -345,7 +355,10 @@ func TestRing(t *testing.T) {
 	k := api.Key{Seed: "s", High: 2, Next: 1}
 	root := mustRoot(t, k)
 	r, _ := Make(k)
-	for range 3 {
+	for i := range 3 {
+		if got := r.Left(); got != 3-i {
+			t.Errorf("a ring's Left at %d = %d; want %d", k.Next, got, 3-i)
+		}
 		next, want := mustSign(t, k, "abc")
 		if got, errno := r.Sign("abc"); got != want || errno != api.OK {
 			t.Errorf("a ring's Sign at %d = %x, %d; want %x", k.Next, got, errno, want)
@@ -364,6 +377,9 @@ func TestRing(t *testing.T) {
 		}
 		if got := r.Key(); got != k {
 			t.Errorf("the key of a ring that is used up = %+v; want %+v", got, k)
+		}
+		if got := r.Left(); got != 0 {
+			t.Errorf("Left of a ring that is used up = %d", got)
 		}
 	}
 }
@@ -390,6 +406,9 @@ func TestRingWithoutMake(t *testing.T) {
 		}
 		if got := r.Key(); got != (api.Key{}) {
 			t.Errorf("the key of %v = %+v", r, got)
+		}
+		if got := r.Left(); got != 0 {
+			t.Errorf("Left of %v = %d", r, got)
 		}
 	}
 }
